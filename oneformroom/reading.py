@@ -22,6 +22,16 @@ def one_form(data):
     return form
 
 
+# What is read and written anew comes out as it went in just where it was the one form.
+def is_one_form(data):
+    try:
+        return one_form(data) == data
+    except NotWellFormed:
+        return False
+    except KeyTwice:
+        return False
+
+
 # What isn't a string, an array, a map or a tag: its head says it all.
 def lone_form(head):
     if head.major <= NEGATIVE or head.info < SHORTEST_WIDE:

@@ -19,3 +19,11 @@ class NoNode(Exception):
 
 class NotString(Exception):
     pass
+
+
+class NotMap(Exception):
+    pass
+
+
+class NoSuchKey(Exception):
+    pass

@@ -1,16 +1,25 @@
 """The calls on one object, answered one behind another."""
 
+from oneformroom.heads import MAP
 from oneformroom.nodes import is_string_kind, nodes_of
-from oneformroom.reading import one_form
-from oneformroom.refusals import KeyTwice, NoNode, NotString, NotWellFormed, NoValue
+from oneformroom.reading import is_one_form, one_form
+from oneformroom.refusals import KeyTwice, NoNode, NoSuchKey, NotMap, NotString, NotWellFormed, NoValue
 
 READ = 1
 WRITE = 2
 COUNT = 3
 KIND = 4
 NUMBER = 5
-# By the number of the call: read, write, count, kind, number, copy.
-TAKES = {1: ("row",), 2: (), 3: (), 4: ("node",), 5: ("node",), 6: ("node",)}
+COPY = 6
+AFTER = 7
+PART = 8
+SAME = 10
+CANONICAL = 11
+# By the number of the call: read, write, count, kind, number, copy, after, part, find, same, canonical.
+TAKES = {
+    1: ("row",), 2: (), 3: (), 4: ("node",), 5: ("node",), 6: ("node",), 7: ("node",), 8: ("node",),
+    9: ("node", "row"), 10: ("row",), 11: ("row",),
+}
 
 
 # The numbers that are handed in, and how far they have been taken; they are only read.
@@ -54,30 +63,69 @@ class Room:
             raise NotString()
         return self.form[node.content_at:node.content_at + node.number]
 
+    # Nothing stands between nodes: so a part ends where the node after it begins.
+    def part_of(self, node):
+        if node.after == len(self.nodes):
+            return self.form[node.begins_at:]
+        return self.form[node.begins_at:self.nodes[node.after].begins_at]
+
+    # Only from key to key: what lies below a key or a value is not this map's.
+    def value_by_key(self, i, key_form):
+        holder = self.nodes[i]
+        if holder.kind != MAP:
+            raise NotMap()
+        at = i + 1
+        while at < holder.after:
+            key = self.nodes[at]
+            if self.part_of(key) == key_form:
+                return key.after
+            at = self.nodes[key.after].after
+        raise NoSuchKey()
+
 
 def told_row(row):
     return [len(row)] + row
 
 
-def answer_about_node(room, call, node):
+# Python's own True and False are no whole numbers here.
+def told_truth(truth):
+    return [1 if truth else 0]
+
+
+def answer_about_node(room, call, i, row):
+    node = room.node_at(i)
     if call == KIND:
         return [node.kind]
     if call == NUMBER:
         return [node.number]
-    return told_row(room.content_of(node))
+    if call == COPY:
+        return told_row(room.content_of(node))
+    if call == AFTER:
+        return [node.after]
+    if call == PART:
+        return told_row(room.part_of(node))
+    return [room.value_by_key(i, row)]
 
 
-def answer(room, call, i, row):
-    if call == READ:
-        room.hold(one_form(row))
-        return []
+def answer_about_value(room, call, i, row):
     if room.form is None:
         raise NoValue()
     if call == WRITE:
         return told_row(room.form)
     if call == COUNT:
         return [len(room.nodes)]
-    return answer_about_node(room, call, room.node_at(i))
+    if call == SAME:
+        return told_truth(one_form(row) == room.form)
+    return answer_about_node(room, call, i, row)
+
+
+def answer(room, call, i, row):
+    if call == READ:
+        room.hold(one_form(row))
+        return []
+    if call == CANONICAL:
+        return told_truth(is_one_form(row))
+    return answer_about_value(room, call, i, row)
 
 
 def answer_or_refusal(room, call, i, row):
@@ -93,6 +141,10 @@ def answer_or_refusal(room, call, i, row):
         return [-1]
     except NotString:
         return [-2]
+    except NotMap:
+        return [-2]
+    except NoSuchKey:
+        return [-3]
 
 
 def answers(calls):

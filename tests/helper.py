@@ -8,11 +8,24 @@ import struct
 
 from oneformroom.values import answers
 
-READ, WRITE, COUNT, KIND, NUMBER, COPY = 1, 2, 3, 4, 5, 6
+READ, WRITE, COUNT, KIND, NUMBER, COPY, AFTER, PART, FIND, SAME, CANONICAL = range(1, 12)
+MOST_CALLS = 16
 
 
 def read(data):
     return [READ, len(data), *data]
+
+
+def find(i, data):
+    return [FIND, i, len(data), *data]
+
+
+def same(data):
+    return [SAME, len(data), *data]
+
+
+def canonical(data):
+    return [CANONICAL, len(data), *data]
 
 
 def apart(told):
@@ -43,6 +56,17 @@ def row(data):
     return [0, len(data), *data]
 
 
+def ask_of(data, questions):
+    """The answers to any number of questions about one value, asked in as many lines as are needed."""
+    told = []
+    step = MOST_CALLS - 1
+    for at in range(0, len(questions), step):
+        first, *others = ask(read(data), *questions[at:at + step])
+        assert first == [0], first
+        told += others
+    return told
+
+
 def written(data):
     """The one form as bytes, or the refusal's number."""
     first, second = ask(read(data), [WRITE])
@@ -67,6 +91,16 @@ def nodes(data):
             content = bytes(copy[2:])
         told.append((kind[1], number[1], content))
     return told
+
+
+def places(data):
+    """Where a value's nodes end: (after, part) each."""
+    count = ask(read(data), [COUNT])[1][1]
+    afters = ask_of(data, [[AFTER, i] for i in range(count)])
+    parts = ask_of(data, [[PART, i] for i in range(count)])
+    assert all(after[0] == 0 and len(after) == 2 for after in afters), afters
+    assert all(part[:2] == [0, len(part) - 2] for part in parts), parts
+    return [(after[1], bytes(part[2:])) for after, part in zip(afters, parts)]
 
 
 # The model.
@@ -218,14 +252,44 @@ def model_write(item):
     return form, [(major, number, None)] + [node for _, below in forms for node in below]
 
 
+def model_below(item):
+    """The items straight below one, in the order of the one form."""
+    if item[0] == "tag":
+        return [item[2]]
+    if item[0] == "array":
+        return item[1]
+    if item[0] == "map":
+        in_order = sorted(item[1], key=lambda pair: model_write(pair[0])[0])
+        return [member for pair in in_order for member in pair]
+    return []
+
+
+def model_places(item, first=0):
+    """For each node, the item's own being first: (after, part, the values' nodes by key or None)."""
+    below = []
+    by_key = {} if item[0] == "map" else None
+    members = model_below(item)
+    at = first + 1
+    for k, member in enumerate(members):
+        if by_key is not None and k % 2 == 1:
+            by_key[model_write(members[k - 1])[0]] = at
+        of_member = model_places(member, at)
+        below += of_member
+        at += len(of_member)
+    return [(at, model_write(item)[0], by_key)] + below
+
+
+def model_read(data):
+    item, at = model_item(data, 0, 0)
+    if at != len(data):
+        raise Bad
+    return item
+
+
 def model(data):
     """The one form and the nodes, or the refusal's number and None."""
-    data = bytes(data)
     try:
-        item, at = model_item(data, 0, 0)
-        if at != len(data):
-            return -1, None
-        return model_write(item)
+        return model_write(model_read(bytes(data)))
     except Bad:
         return -1, None
     except Twice:

@@ -4,7 +4,8 @@ import random
 import struct
 import unittest
 
-from tests.helper import model, nodes, written
+from tests.helper import (ask, ask_of, canonical, find, model, model_places, model_read, nodes, places, read, same,
+                          written)
 
 
 def any_head(rng, major, number):
@@ -113,11 +114,37 @@ class AgainstModel(unittest.TestCase):
     def check(self, data, with_nodes=True):
         form, model_nodes = model(data)
         self.assertEqual(written(data), form, data.hex())
+        self.assertEqual(ask(canonical(data)), [[0, 1 if form == data else 0]], data.hex())
         if model_nodes is not None:
             self.assertEqual(written(form), form, data.hex())
             if with_nodes:
                 self.assertEqual(nodes(data), model_nodes, data.hex())
+                self.check_places(data)
         return form
+
+    def check_places(self, data):
+        expected = model_places(model_read(data))
+        self.assertEqual(places(data), [(after, part) for after, part, _ in expected], data.hex())
+        # Whatever stands somewhere in the value is looked for in each map.
+        parts = sorted({part for _, part, _ in expected})
+        for i, (_, _, by_key) in enumerate(expected):
+            if by_key is None:
+                self.assertEqual(ask_of(data, [find(i, parts[0])]), [[-2]], data.hex())
+                continue
+            told = ask_of(data, [find(i, part) for part in parts])
+            self.assertEqual(told, [[0, by_key[part]] if part in by_key else [-3] for part in parts], data.hex())
+
+    def check_same(self, data, other):
+        form, other_form = model(data)[0], model(other)[0]
+        if form in (-1, -2):
+            expected = -9
+        elif other_form in (-1, -2):
+            expected = other_form
+        else:
+            expected = 1 if form == other_form else 0
+        told = ask(read(data), same(other))[1]
+        self.assertEqual(told, [expected] if expected < 0 else [0, expected], (data.hex(), other.hex()))
+        return expected
 
     def test_all_rows_of_one_and_two(self):
         for first in range(256):
@@ -162,3 +189,16 @@ class AgainstModel(unittest.TestCase):
             met[sort] = met.get(sort, 0) + 1
         self.assertGreater(min(met[0], met[-1]), 1000)
         self.assertGreater(met[-2], 5)
+
+    def test_same_of_two(self):
+        rng = random.Random(4)
+        met = {}
+        for _ in range(3000):
+            value = any_value(rng, rng.randrange(1, 4))
+            data, other = any_writing(rng, value)[:400], any_writing(rng, value)[:400]
+            for second in (other, spoilt(rng, other), any_writing(rng, any_value(rng, 1))[:400]):
+                expected = self.check_same(data, second)
+                met[expected] = met.get(expected, 0) + 1
+        # All are met often enough to tell something.
+        self.assertGreater(min(met[1], met[0], met[-1]), 1000, met)
+        self.assertGreater(min(met[-9], met[-2]), 20, met)

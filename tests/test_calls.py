@@ -5,7 +5,8 @@ import io
 import unittest
 
 from oneformroom.values import answers
-from tests.helper import COPY, COUNT, KIND, NUMBER, READ, WRITE, ask, nodes, read, row
+from tests.helper import (AFTER, COPY, COUNT, KIND, MOST_CALLS, NUMBER, PART, READ, WRITE, ask, canonical, find, model,
+                          nodes, read, row, same)
 
 GREATEST = 4294967295
 MIXED = b"\xbf\x61b\x9f\x5f\x41x\x41y\xff\x38\x05\xff\x61a\xc5\xfb\x3f\xf8" + bytes(6) + b"\xff"
@@ -42,9 +43,11 @@ class Form(unittest.TestCase):
 
 class Refusals(unittest.TestCase):
     def test_no_value(self):
-        for call in ([WRITE], [COUNT], [KIND, 0], [NUMBER, 0], [COPY, 0], [KIND, GREATEST], [NUMBER, GREATEST],
-                     [COPY, GREATEST]):
+        for call in ([WRITE], [COUNT], [KIND, 0], [NUMBER, 0], [COPY, 0], [AFTER, 0], [PART, 0], find(0, b"\x01"),
+                     find(GREATEST, b""), same(b"\x01"), same(b""), [KIND, GREATEST], [NUMBER, GREATEST],
+                     [COPY, GREATEST], [AFTER, GREATEST], [PART, GREATEST]):
             self.assertEqual(ask(call), [[-9]])
+            self.assertEqual(ask(read(b"\xff"), call, canonical(b"\x01"), call), [[-1], [-9], [0, 1], [-9]])
 
     def test_no_value_yet_then_one(self):
         self.assertEqual(ask([KIND, 7], [COPY, 1], [WRITE], [NUMBER, 2], read(b"\x05"), [WRITE]),
@@ -67,6 +70,84 @@ class Refusals(unittest.TestCase):
     def test_a_new_value_takes_the_place_of_the_old(self):
         told = ask(read(b"\x83\x01\x02\x03"), [COUNT], read(b"\x41a"), [WRITE], [COUNT], [KIND, 0], [COPY, 0], [KIND, 1])
         self.assertEqual(told, [[0], [0, 4], [0], row(b"\x41a"), [0, 1], [0, 2], row(b"a"), [-1]])
+
+
+class AllCalls(unittest.TestCase):
+    FORM = b"\xa2\x61a\xc5\xf9\x3e\x00\x61b\x82\x42xy\x25"
+    # All eleven, each with its answer about MIXED.
+    ALL = (
+        (read(MIXED), [0]), ([WRITE], row(FORM)), ([COUNT], [0, 8]), ([KIND, 3], [0, 8]), ([NUMBER, 3], [0, 0x3e00]),
+        ([COPY, 6], row(b"xy")), ([AFTER, 2], [0, 4]), ([PART, 5], row(b"\x82\x42xy\x25")), (find(0, b"\x61b"), [0, 5]),
+        (same(FORM), [0, 1]), (canonical(MIXED), [0, 0]),
+    )
+    REFUSED = (
+        (read(b""), [-1]), (read(b"\xa2\x01\x00\x01\x00"), [-2]), ([KIND, 8], [-1]), ([NUMBER, 8], [-1]),
+        ([COPY, 8], [-1]), ([COPY, 0], [-2]), ([AFTER, 8], [-1]), ([PART, GREATEST], [-1]), (find(8, b"\x61b"), [-1]),
+        (find(1, b"\x61b"), [-2]), (find(0, b"\x61c"), [-3]), (same(b"\xff"), [-1]),
+        (same(b"\xa2\x01\x00\x01\x00"), [-2]), (canonical(b"\xff"), [0, 0]),
+    )
+
+    def check(self, both):
+        self.assertEqual(ask(*[call for call, _ in both]), [expected for _, expected in both])
+
+    def test_one_behind_another(self):
+        self.check(self.ALL)
+        for turn in range(1, 11):
+            self.check(self.ALL[:1] + self.ALL[turn:] + self.ALL[1:turn])
+        self.check(self.ALL[:1] + self.ALL[:0:-1])
+
+    def test_as_one_list(self):
+        calls = [1, 4, 161, 7, 65, 9, 2, 3, 4, 0, 5, 0, 6, 2, 7, 1, 8, 2, 9, 0, 1, 7, 10, 1, 0, 11, 1, 0]
+        self.assertEqual(answers(calls), [
+            1, 0, 6, 0, 4, 161, 7, 65, 9, 2, 0, 3, 2, 0, 5, 2, 0, 1, 3, 0, 1, 9, 2, 0, 2, 4, 0, 2, 65, 9, 2, 0, 2, 2, 0, 0,
+            2, 0, 1])
+
+    def test_refused_ones_among_them_change_nothing(self):
+        for one in self.REFUSED:
+            # Ahead of each of the others in turn, and behind all of them.
+            for at in range(1, 12):
+                self.check(self.ALL[:at] + (one,) + self.ALL[at:])
+            self.check(self.ALL[:1] + (one, one, one) + self.ALL[1:])
+        for at in range(10):
+            self.check(self.ALL[:1] + self.REFUSED[at:at + 5] + self.ALL[1:])
+
+    def test_before_there_is_a_value(self):
+        none_yet = tuple((call, [-9]) for call, _ in self.ALL[1:10])
+        self.check(none_yet + self.ALL[10:] + self.ALL[:1] + self.ALL[6:10])
+
+
+class SixteenCalls(unittest.TestCase):
+    """As many calls as there may be, with as many bytes as there may be."""
+    KEY = b"\x79\x01\x89" + b"k" * 393
+    ROWS = (
+        b"\x59\x01\x8d" + bytes(397), b"\x99\x01\x8d" + bytes(397), b"\x9f" + bytes(398) + b"\xff", bytes(400),
+        b"\x81" * 400, b"\x9f" * 400, b"\xbf" * 400, b"\xc1" * 400, b"\x5f" + b"\x40" * 398 + b"\xff",
+        b"\x7f" + b"\x61a" * 199 + b"\xff", b"\xa1" + KEY + b"\x19\x01\x00",
+        b"\x9f" + b"\xbf\xff" * 199 + b"\xff",
+        b"\xbf" + b"".join(bytes([25, 1, key, 0]) for key in range(98, -1, -1)) + b"\x00\x00\xff",
+        b"\xbf" + bytes(398) + b"\xff", b"\x9f" * 15 + b"\xa0" * 370 + b"\xff" * 15,
+    )
+
+    def test_rows(self):
+        for data in self.ROWS:
+            self.assertEqual(len(data), 400)
+            form, _ = model(data)
+            refusal = [form] if form in (-1, -2) else [0]
+            is_form = [0, 1 if form == data else 0]
+            self.assertEqual(ask(*[read(data)] * MOST_CALLS), [refusal] * MOST_CALLS)
+            self.assertEqual(ask(*[canonical(data)] * MOST_CALLS), [is_form] * MOST_CALLS)
+            told = ask(read(data), *[same(data)] * (MOST_CALLS - 1))
+            self.assertEqual(told, [refusal] + ([[0, 1]] if refusal == [0] else [[-9]]) * (MOST_CALLS - 1))
+
+    def test_long_answers(self):
+        data = self.ROWS[2]
+        form, _ = model(data)
+        self.assertEqual(ask(read(data), *[[PART, 0]] * 15), [[0]] + [row(form)] * 15)
+
+    def test_long_keys(self):
+        data = b"\xa1" + self.KEY + b"\x00"
+        told = ask(read(data), find(0, self.KEY), *[find(0, self.KEY + b"kkkk")] * 14)
+        self.assertEqual(told, [[0], [0, 2]] + [[-3]] * 14)
 
 
 class Nodes(unittest.TestCase):
@@ -112,8 +193,10 @@ class Nodes(unittest.TestCase):
 
 
 class Kept(unittest.TestCase):
-    CALLS = [number for call in (read(MIXED), [WRITE], [COUNT], [KIND, 3], [COPY, 1], read(b"\x01\x01"), [NUMBER, 3],
-                                 [COPY, 99]) for number in call]
+    CALLS = [number for call in (canonical(MIXED), read(MIXED), [WRITE], [COUNT], [KIND, 3], [COPY, 1], read(b"\x01\x01"),
+                                 [NUMBER, 3], [COPY, 99], [AFTER, 2], [PART, 5], find(0, b"\x61b"), find(0, b"\x61c"),
+                                 same(MIXED), same(b"\xa2\x01\x00\x01\x00"), canonical(b"\x82\x01\x02"))
+             for number in call]
 
     def test_the_list_is_as_it_was(self):
         calls = list(self.CALLS)
@@ -141,7 +224,8 @@ class Kept(unittest.TestCase):
 
     def test_nothing_is_kept_for_the_next_time(self):
         answers(list(self.CALLS))
-        self.assertEqual(ask([WRITE], [COUNT], [KIND, 0]), [[-9], [-9], [-9]])
+        self.assertEqual(ask([WRITE], [COUNT], [KIND, 0], [AFTER, 0], [PART, 0], find(0, b"\x61b"), same(MIXED)),
+                         [[-9]] * 7)
 
     def test_nothing_is_printed(self):
         out = io.StringIO()
